@@ -1,0 +1,1 @@
+"""Seenposts: posts that can be seen and posts that are hidden."""

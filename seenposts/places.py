@@ -1,0 +1,39 @@
+"""Single places: which are seen, and what stands before the others."""
+
+from seenposts.errors import InvalidNumber, InvalidPlace
+from seenposts.vectors import common_divisor
+
+
+def divisor_of(place):
+    """Return the common divisor of a place in the plane or in space."""
+    if len(place) not in (2, 3):
+        raise InvalidPlace(place)
+    return common_divisor(place)
+
+
+def is_seen(place):
+    """Return True if a place is seen from the eye, otherwise False."""
+    return divisor_of(place) == 1
+
+
+def between(place):
+    """Return the number of posts that stand between the eye and a place."""
+    # The eye's own place has the divisor 0, and nothing stands before it.
+    return max(0, divisor_of(place) - 1)
+
+
+def first_post(place):
+    """Return the seen post on the way from the eye to a place."""
+    divisor = divisor_of(place)
+    if divisor == 0:
+        return place
+    return tuple([number // divisor for number in place])
+
+
+def remainders(place, divisor):
+    """Return the remainders of the coordinates by a divisor of at least 2."""
+    if len(place) not in (2, 3):
+        raise InvalidPlace(place)
+    if divisor < 2:
+        raise InvalidNumber(divisor)
+    return tuple([number % divisor for number in place])
