@@ -1,7 +1,7 @@
 """Pictures: which places, of some near one another, are seen and which are hidden."""
 
+from seenposts.arithmetic import added, image, keeps_posts, least_corner
 from seenposts.errors import Conflict, DoublePlace, InvalidMatrix, InvalidPlace, InvalidSize
-from seenposts.vectors import added, image, keeps_posts
 
 
 def words_of(size, seen, hidden):
@@ -43,6 +43,10 @@ class Picture:
         """The hidden places, ascending, in a new list."""
         return list(self._hidden)
 
+    def word(self, place):
+        """Return "seen" or "hidden", as the picture tells it of a place, None if it does not."""
+        return self._words.get(place)
+
     def shifted(self, shift):
         """Return the picture with a shift added to each place."""
         if len(shift) != self._size:
@@ -63,8 +67,7 @@ class Picture:
         """Return the picture shifted so that the least value of each coordinate is 0."""
         if len(self._words) == 0:
             return self
-        lows = [min([place[axis] for place in self._words]) for axis in range(self._size)]
-        return self.shifted(tuple([-low for low in lows]))
+        return self.shifted(tuple([-low for low in least_corner(self._seen + self._hidden)]))
 
     def __or__(self, other):
         """Return the picture with the places of both."""

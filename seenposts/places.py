@@ -1,7 +1,7 @@
 """Single places: which are seen, and what stands before the others."""
 
+from seenposts.arithmetic import common_divisor
 from seenposts.errors import InvalidNumber, InvalidPlace
-from seenposts.vectors import common_divisor
 
 
 def divisor_of(place):

@@ -17,6 +17,40 @@ PICTURES = """
 [[(0, 0), (0, 1), (1, 0)], [(0, 0), (1, 0), (1, 1)], True, [(0, 1), (1, 0)], True, 5]
 """
 
+SHOWS = """
+>>> from seenposts.pictures import Picture
+>>> from seenposts.shows import barring, classes, find_shift, is_possible, judge_barring, shows
+>>> corner = Picture(2, [(0, 0), (0, 1), (1, 0)], [(1, 1)])
+>>> square = Picture(2, [(0, 0), (0, 1), (1, 0), (1, 1)], [])
+>>> [shows(corner, (1, 1)), shows(corner, (1, 3)), shows(corner, find_shift(corner)), is_possible(square), barring(square), find_shift(square), classes(corner, 2)[3], judge_barring(square, 2, [(1, 1), (0, 0), (1, 0), (0, 1)])]
+[True, True, True, False, 2, None, ((1, 1), None), True]
+"""
+
+FORCED = """
+>>> from seenposts.forced import alike, both_ways, follows, forced_by, forced_in, opposed, status, whole
+>>> from seenposts.pictures import Picture
+>>> three = Picture(2, [(0, 0), (0, 1), (1, 0)], [])
+>>> [status(three, (1, 1)), status(three, (2, 2)), status(three, (3, -1)), forced_in(three, (0, 0), (3, 2)), follows(three, Picture(2, [], [(1, 1)])), follows(Picture(2, [], [(1, 1)]), three), opposed(three, Picture(2, [(1, 1)], []))]
+['hidden', 'open', 'hidden', [(1, 1), (3, 1)], True, False, True]
+>>> [whole(three).hidden, alike(three, whole(three)), forced_by(three, (3, -1)), forced_by(three, (2, 2)), both_ways(three, (1, 1)), len(both_ways(three, (2, 2)))]
+[[(1, 1)], True, 2, None, None, 2]
+"""
+
+THICK = """
+>>> from seenposts.pictures import Picture
+>>> from seenposts.thick import class_count, is_thicker, thickness
+>>> [thickness(Picture(2, [(0, 0)], []), 3), thickness(Picture(2, [], [(5, 5)]), 3), thickness(Picture(3, [(0, 0, 0)], []), 2), class_count([(0, 0), (2, 4), (1, 1)], 2), is_thicker(Picture(2, [(0, 0)], []), Picture(2, [(0, 0), (0, 1)], []), 60)]
+[((4, 9), (2, 3)), ((1, 3), (5, 9)), ((49, 64), (7, 8)), 2, True]
+"""
+
+COUNTS = """
+>>> from seenposts.counts import count_seen, count_shown, first_shown, shown_in
+>>> from seenposts.pictures import Picture
+>>> three = Picture(2, [(0, 0), (0, 1), (1, 0)], [])
+>>> [count_seen((1, 1), (3, 3)), count_seen((-1, -1, -1), (1, 1, 1)), count_shown(three, (0, 0), (3, 3)), shown_in(three, (0, 0), (3, 3)), first_shown(three, 5), first_shown(Picture(2, [], [(0, 0), (0, 1)]), 1)]
+[7, 26, 3, [(1, 1), (1, 3), (3, 1)], (-1, -1), None]
+"""
+
 
 class Examples(unittest.TestCase):
     def check(self, text, least):
@@ -33,10 +67,22 @@ class Examples(unittest.TestCase):
     def test_pictures(self):
         self.check(PICTURES, 3)
 
+    def test_shows(self):
+        self.check(SHOWS, 5)
+
+    def test_forced(self):
+        self.check(FORCED, 5)
+
+    def test_thick(self):
+        self.check(THICK, 3)
+
+    def test_counts(self):
+        self.check(COUNTS, 4)
+
     def test_readme(self):
         path = os.path.join(os.path.dirname(__file__), os.pardir, "README.md")
         with open(path, encoding="ascii") as file:
-            self.check(file.read(), 15)
+            self.check(file.read(), 35)
 
 
 if __name__ == "__main__":

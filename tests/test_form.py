@@ -11,6 +11,17 @@ FOLDER = os.path.join(os.path.dirname(os.path.abspath(__file__)), os.pardir, "se
 FUNCTIONS = {
     "places": {"is_seen": ["place"], "between": ["place"], "first_post": ["place"],
                "remainders": ["place", "divisor"]},
+    "shows": {"shows": ["picture", "shift"], "is_possible": ["picture"], "barring": ["picture"],
+              "classes": ["picture", "prime"], "judge_barring": ["picture", "prime", "told"],
+              "find_shift": ["picture"]},
+    "forced": {"status": ["picture", "place"], "forced_by": ["picture", "place"],
+               "both_ways": ["picture", "place"], "forced_in": ["picture", "low", "high"],
+               "follows": ["one", "other"], "alike": ["one", "other"], "opposed": ["one", "other"],
+               "whole": ["picture"]},
+    "thick": {"thickness": ["picture", "limit"], "class_count": ["places", "prime"],
+              "is_thicker": ["one", "other", "limit"]},
+    "counts": {"count_seen": ["low", "high"], "count_shown": ["picture", "low", "high"],
+               "shown_in": ["picture", "low", "high"], "first_shown": ["picture", "most"]},
 }
 
 # Each class with the arguments of its constructor, its methods with theirs, and its properties.
