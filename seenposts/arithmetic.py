@@ -21,12 +21,59 @@ def primes_to(most):
     return [number for number in range(2, most + 1) if is_prime(number)]
 
 
+def prime_divisors(number):
+    """Return the primes that divide an integer of at least 1, ascending."""
+    found, divisor = [], 2
+    while number > 1:
+        if divisor * divisor > number:
+            divisor = number
+        if number % divisor == 0:
+            found.append(divisor)
+        while number % divisor == 0:
+            number //= divisor
+        divisor += 1
+    return found
+
+
+def signed_products(primes):
+    """Return the products of some of a list of primes, with the sign -1 for an odd number of them."""
+    found = [(1, 1)]
+    for prime in primes:
+        found = found + [(number * prime, -sign) for number, sign in found]
+    return found
+
+
 def common_divisor(place):
     """Return the greatest common divisor of the coordinates, 0 if all of them are 0."""
     found = 0
     for number in place:
         found = gcd(found, number)
     return found
+
+
+def two_weights(one, other):
+    """Return two integers that, times two others, sum up to the common divisor of these."""
+    weights, further = (1, 0), (0, 1)
+    while other != 0:
+        many = one // other
+        one, other = other, one - many * other
+        weights, further = further, less(weights, (many * further[0], many * further[1]))
+    return weights if one >= 0 else (-weights[0], -weights[1])
+
+
+def weights_of(place):
+    """Return integers that, times the coordinates, sum up to the common divisor of these."""
+    divisor, found = 0, ()
+    for number in place:
+        before, last = two_weights(divisor, number)
+        found = tuple([before * weight for weight in found]) + (last,)
+        divisor = gcd(divisor, number)
+    return found
+
+
+def less(place, other):
+    """Return a place less another one, coordinate by coordinate."""
+    return tuple([number - more for number, more in zip(place, other)])
 
 
 def added(place, shift):

@@ -1,7 +1,7 @@
 """How many places of a box are seen, and at which of its shifts a picture is shown."""
 
 from seenposts.arithmetic import is_empty_box, places_in
-from seenposts.errors import InvalidPlace
+from seenposts.places import check_any_place, check_place
 from seenposts.shows import shows
 
 
@@ -15,10 +15,8 @@ def multiples(low, high, divisor):
 
 def count_seen(low, high):
     """Return the number of seen places of a box."""
-    if len(low) not in (2, 3):
-        raise InvalidPlace(low)
-    if len(high) != len(low):
-        raise InvalidPlace(high)
+    check_any_place(low)
+    check_place(high, len(low))
     if is_empty_box(low, high):
         return 0
     most = max([abs(number) for number in low + high])
@@ -34,8 +32,7 @@ def count_seen(low, high):
 def shown_in(picture, low, high):
     """Return the shifts of a box at which a picture is shown, ascending."""
     for place in (low, high):
-        if len(place) != picture.size:
-            raise InvalidPlace(place)
+        check_place(place, picture.size)
     return [shift for shift in places_in(low, high) if shows(picture, shift)]
 
 

@@ -1,9 +1,9 @@
 """What else is hidden wherever a picture is shown, and what follows from a picture."""
 
 from seenposts.arithmetic import greatest_corner, least_corner, places_in
-from seenposts.errors import Barred, InvalidPlace, InvalidSize
+from seenposts.errors import Barred, InvalidSize
 from seenposts.pictures import Picture
-from seenposts.places import remainders
+from seenposts.places import check_place, remainders
 from seenposts.shows import barring, find_shift, first_free, first_places, is_possible
 from seenposts.shows import many_remainders, small_primes
 
@@ -38,8 +38,7 @@ def word_of(picture, lone, place):
 def check(picture, places):
     """Raise an error if a place has another size than a picture, or the picture is not possible."""
     for place in places:
-        if len(place) != picture.size:
-            raise InvalidPlace(place)
+        check_place(place, picture.size)
     prime = barring(picture)
     if prime is not None:
         raise Barred(prime)

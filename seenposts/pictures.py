@@ -1,7 +1,20 @@
 """Pictures: which places, of some near one another, are seen and which are hidden."""
 
 from seenposts.arithmetic import added, image, keeps_posts, least_corner
-from seenposts.errors import Conflict, DoublePlace, InvalidMatrix, InvalidPlace, InvalidSize
+from seenposts.errors import Conflict, DoublePlace, InvalidMatrix, InvalidSize, InvalidWord
+from seenposts.places import check_place
+
+
+def check_size(size):
+    """Raise an error if pictures have not this size."""
+    if size not in (2, 3):
+        raise InvalidSize(size)
+
+
+def check_word(word):
+    """Raise an error if a word does not tell how a place stands."""
+    if word not in ("seen", "hidden"):
+        raise InvalidWord(word)
 
 
 def words_of(size, seen, hidden):
@@ -9,8 +22,7 @@ def words_of(size, seen, hidden):
     words = {}
     for places, word in ((seen, "seen"), (hidden, "hidden")):
         for place in places:
-            if len(place) != size:
-                raise InvalidPlace(place)
+            check_place(place, size)
             if place in words:
                 raise DoublePlace(place)
             words[place] = word
@@ -21,8 +33,7 @@ class Picture:
     """Seen and hidden places of one size, none of them in both; it never changes."""
 
     def __init__(self, size, seen, hidden):
-        if size not in (2, 3):
-            raise InvalidSize(size)
+        check_size(size)
         self._words = words_of(size, seen, hidden)
         self._size = size
         self._seen = sorted(seen)
@@ -49,8 +60,7 @@ class Picture:
 
     def shifted(self, shift):
         """Return the picture with a shift added to each place."""
-        if len(shift) != self._size:
-            raise InvalidPlace(shift)
+        check_place(shift, self._size)
         seen = [added(place, shift) for place in self._seen]
         hidden = [added(place, shift) for place in self._hidden]
         return Picture(self._size, seen, hidden)

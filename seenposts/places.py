@@ -4,10 +4,21 @@ from seenposts.arithmetic import common_divisor
 from seenposts.errors import InvalidNumber, InvalidPlace
 
 
-def divisor_of(place):
-    """Return the common divisor of a place in the plane or in space."""
+def check_place(place, size):
+    """Raise an error if a place has not as many coordinates as the size."""
+    if len(place) != size:
+        raise InvalidPlace(place)
+
+
+def check_any_place(place):
+    """Raise an error if a place stands neither in the plane nor in space."""
     if len(place) not in (2, 3):
         raise InvalidPlace(place)
+
+
+def divisor_of(place):
+    """Return the common divisor of a place in the plane or in space."""
+    check_any_place(place)
     return common_divisor(place)
 
 
@@ -32,8 +43,7 @@ def first_post(place):
 
 def remainders(place, divisor):
     """Return the remainders of the coordinates by a divisor of at least 2."""
-    if len(place) not in (2, 3):
-        raise InvalidPlace(place)
+    check_any_place(place)
     if divisor < 2:
         raise InvalidNumber(divisor)
     return tuple([number % divisor for number in place])

@@ -1,14 +1,13 @@
 """Where pictures are shown, and the primes that bar them."""
 
 from seenposts.arithmetic import added, next_prime, places_in, primes_to
-from seenposts.errors import InvalidNumber, InvalidPlace
-from seenposts.places import is_seen, remainders
+from seenposts.errors import InvalidNumber
+from seenposts.places import check_place, is_seen, remainders
 
 
 def shows(picture, shift):
     """Return True if a picture is shown at a shift, otherwise False."""
-    if len(shift) != picture.size:
-        raise InvalidPlace(shift)
+    check_place(shift, picture.size)
     for place in picture.seen:
         if not is_seen(added(place, shift)):
             return False

@@ -51,6 +51,31 @@ COUNTS = """
 [7, 26, 3, [(1, 1), (1, 3), (3, 1)], (-1, -1), None]
 """
 
+BOXES = """
+>>> from seenposts.boxes import judge_keys, key_list, most_seen, number_of_sets, seen_lot
+>>> from seenposts.shows import is_possible
+>>> [most_seen([2, 2]), most_seen([3, 3]), most_seen([1, 6]), most_seen([2, 2, 2]), key_list([3, 3]), judge_keys([3, 3], [(2, (1, 1)), (3, (0, 0))], 7), number_of_sets([2, 2]), len(seen_lot([4, 3])) == most_seen([4, 3]), is_possible(seen_lot([4, 3])), most_seen([2, 10 ** 30])]
+[3, 8, 6, 7, [(2, (1, 1)), (3, (1, 1))], True, 15, True, True, 1500000000000000000000000000000]
+"""
+
+LINES = """
+>>> from seenposts.lines import Line
+>>> line = Line((0, 6), (1, 1))
+>>> [line.number, line.dark(), line.seen_at(10 ** 30), line.total(1, 12), line.total(-10 ** 30, 10 ** 30), line.at(3), line.share(), line.longest(), line.post(-2)]
+[6, [(2, 0), (3, 0)], False, 4, 666666666666666666666666666666, 11, (1, 3), (3, 2), (-2, 4)]
+>>> through = Line((2, 2), (1, 1))
+>>> [through.number, through.total(-9, 9), through.seen_at(-3), through.longest(), Line((0, 1), (1, 0)).longest(), Line((0, 0, 2), (1, 0, 0)).dark()]
+[0, 2, True, None, (0, None), [(2, 0)]]
+"""
+
+EYES = """
+>>> from seenposts.eyes import barring_eyes, for_eyes, in_sight, meeting, seen_by
+>>> looks = for_eyes(2, [((0, 0), (3, 1), "seen"), ((1, 0), (3, 1), "hidden"), ((1, 1), (4, 2), "seen")])
+>>> eyes = [(0, 0), (1, 0), (1, 1)]
+>>> [looks.seen, looks.hidden, seen_by(eyes, (3, 1)), in_sight(eyes, (0, 0), (2, 2)), seen_by(eyes, meeting(2, eyes)), meeting(2, eyes + [(0, 1)]), barring_eyes(2, eyes + [(2, 2), (0, 1)])]
+[[(3, 1)], [(2, 1)], [0, 1], [(0, 1), (2, 1)], [0, 1, 2], None, (2, [0, 1, 2, 4])]
+"""
+
 
 class Examples(unittest.TestCase):
     def check(self, text, least):
@@ -78,6 +103,15 @@ class Examples(unittest.TestCase):
 
     def test_counts(self):
         self.check(COUNTS, 4)
+
+    def test_boxes(self):
+        self.check(BOXES, 3)
+
+    def test_lines(self):
+        self.check(LINES, 5)
+
+    def test_eyes(self):
+        self.check(EYES, 4)
 
     def test_readme(self):
         path = os.path.join(os.path.dirname(__file__), os.pardir, "README.md")

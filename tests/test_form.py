@@ -1,6 +1,7 @@
 """The names and arguments of the interface, and the plain limits on the files of the package."""
 
 import ast
+import builtins
 import importlib
 import inspect
 import os
@@ -22,6 +23,11 @@ FUNCTIONS = {
               "is_thicker": ["one", "other", "limit"]},
     "counts": {"count_seen": ["low", "high"], "count_shown": ["picture", "low", "high"],
                "shown_in": ["picture", "low", "high"], "first_shown": ["picture", "most"]},
+    "boxes": {"most_seen": ["sides"], "seen_lot": ["sides"], "key_list": ["sides"],
+              "judge_keys": ["sides", "told", "many"], "number_of_sets": ["sides"]},
+    "eyes": {"for_eyes": ["size", "entries"], "seen_by": ["eyes", "place"],
+             "in_sight": ["eyes", "low", "high"], "meeting": ["size", "eyes"],
+             "barring_eyes": ["size", "eyes"]},
 }
 
 # Each class with the arguments of its constructor, its methods with theirs, and its properties.
@@ -31,6 +37,11 @@ CLASSES = {
         {"shifted": ["shift"], "mapped": ["rows"], "least": [], "__or__": ["other"],
          "__sub__": ["other"], "__contains__": ["x"], "__len__": [], "__eq__": ["other"]},
         ["size", "seen", "hidden"])},
+    "lines": {"Line": (
+        ["start", "step"],
+        {"post": ["t"], "seen_at": ["t"], "dark": [], "total": ["low", "high"], "at": ["k"],
+         "share": [], "longest": [], "__eq__": ["other"]},
+        ["start", "step", "number"])},
     "errors": {name: (["value"], {}, []) for name in [
         "PostError", "InvalidSize", "InvalidPlace", "DoublePlace", "InvalidMatrix", "InvalidStep",
         "InvalidNumber", "InvalidWord", "Conflict", "Barred", "Taken", "Wrong", "NothingToUndo",
@@ -96,6 +107,30 @@ class Files(unittest.TestCase):
                 if isinstance(node, ast.ImportFrom):
                     allowed = node.module == "math" or node.module.startswith("seenposts.")
                     self.assertTrue(allowed and node.level == 0, name)
+
+    def test_names_have_one_meaning(self):
+        for name, text in sources():
+            tree = ast.parse(text)
+            taken = set(dir(builtins)) - {"_"}
+            for node in ast.walk(tree):
+                if isinstance(node, ast.ImportFrom):
+                    taken.update([part.name for part in node.names])
+                if isinstance(node, ast.ClassDef):
+                    taken.add(node.name)
+            for node in ast.walk(tree):
+                if isinstance(node, ast.Name) and isinstance(node.ctx, ast.Store):
+                    self.assertNotIn(node.id, taken, (name, node.lineno))
+                if isinstance(node, ast.arg):
+                    self.assertNotIn(node.arg, taken, (name, node.lineno))
+
+    def test_nothing_that_the_language_leaves_out(self):
+        barred = (ast.GeneratorExp, ast.Try, ast.Global, ast.AsyncFunctionDef, ast.Await, ast.Div)
+        for name, text in sources():
+            for node in ast.walk(ast.parse(text)):
+                self.assertNotIsInstance(node, barred, (name, getattr(node, "lineno", None)))
+                if isinstance(node, ast.Constant):
+                    self.assertNotIsInstance(node.value, float, (name, node.lineno))
+                    self.assertFalse(isinstance(node.value, str) and "%" in node.value, name)
 
 
 if __name__ == "__main__":
