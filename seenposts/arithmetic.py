@@ -22,7 +22,7 @@ def primes_to(most):
 
 
 def prime_divisors(number):
-    """Return the primes that divide an integer of at least 1, ascending."""
+    """Return the primes that divide an integer of at least 1, ascending, and none for 0."""
     found, divisor = [], 2
     while number > 1:
         if divisor * divisor > number:

@@ -35,13 +35,18 @@ def word_of(picture, lone, place):
     return "open" if forcing(lone, place) is None else "hidden"
 
 
+def check_possible(picture):
+    """Raise an error if a picture is not possible."""
+    prime = barring(picture)
+    if prime is not None:
+        raise Barred(prime)
+
+
 def check(picture, places):
     """Raise an error if a place has another size than a picture, or the picture is not possible."""
     for place in places:
         check_place(place, picture.size)
-    prime = barring(picture)
-    if prime is not None:
-        raise Barred(prime)
+    check_possible(picture)
 
 
 def check_sizes(one, other):

@@ -55,8 +55,6 @@ class Line:
 
     def dark(self):
         """Return the primes that hide posts, each with the remainder of the positions of these."""
-        if self._number == 0:
-            return []
         return [(prime, self._centre % prime) for prime in prime_divisors(self._number)]
 
     def beside_eye(self):

@@ -76,6 +76,33 @@ EYES = """
 [[(3, 1)], [(2, 1)], [0, 1], [(0, 1), (2, 1)], [0, 1, 2], None, (2, [0, 1, 2, 4])]
 """
 
+BACK = """
+>>> from seenposts.back import best_look, fitting, judge_plan, look_plan, looks_needed, parting
+>>> shifts, places = [(0, 1), (1, 1), (2, 1)], [(0, 0), (0, 1), (0, 2)]
+>>> [fitting(shifts, [((0, 1), "hidden")]), best_look(shifts, places), looks_needed(shifts, places), looks_needed(shifts, [(0, 0)]), judge_plan(shifts, look_plan(shifts, places)), judge_plan(shifts, ("shift", (0, 1))), parting((0, 1), (2, 1), (0, 0), (2, 2)), parting((0, 1), (0, 1), (0, 0), (9, 9))]
+[[(0, 1), (2, 1)], (0, 1), 2, None, True, False, (0, 2), None]
+"""
+
+WINDOWS = """
+>>> from seenposts.windows import PlacedWindow, Window
+>>> window = Window(2)
+>>> [window.add_all([((0, 0), "seen"), ((0, 1), "seen"), ((1, 0), "seen")]), window.word_at((3, 3)), window.word_at((2, 1)), window((2, 2), "hidden"), len(window), window.undo(), window.looks[-1], window.picture.hidden]
+[None, 'hidden', 'open', None, 4, None, ((1, 0), 'seen'), []]
+>>> placed = PlacedWindow((1, 1))
+>>> [placed((0, 0), "seen"), placed((1, 1), "hidden"), placed.picture.hidden, placed.shift, placed == window]
+[None, None, [(1, 1)], (1, 1), False]
+"""
+
+TEXTS = """
+>>> from seenposts.lines import Line
+>>> from seenposts.pictures import Picture
+>>> from seenposts.readings import read_line, read_picture, read_place
+>>> from seenposts.texts import show_line, show_picture, show_place
+>>> corner = Picture(2, [(1, 0), (0, 0)], [(-1, 1)])
+>>> [show_picture(corner), read_picture(show_picture(corner)) == corner, show_picture(Picture(3, [], [])), show_place((0, -5, 7)), read_place("(3,-4)"), show_line(Line((0, 6), (1, 1))), read_line("(2,2) by (1,1)") == Line((2, 2), (1, 1))]
+['2 seen (0,0) (1,0) hidden (-1,1)', True, '3 seen hidden', '(0,-5,7)', (3, -4), '(0,6) by (1,1)', True]
+"""
+
 
 class Examples(unittest.TestCase):
     def check(self, text, least):
@@ -113,10 +140,19 @@ class Examples(unittest.TestCase):
     def test_eyes(self):
         self.check(EYES, 4)
 
+    def test_back(self):
+        self.check(BACK, 3)
+
+    def test_windows(self):
+        self.check(WINDOWS, 5)
+
+    def test_texts(self):
+        self.check(TEXTS, 6)
+
     def test_readme(self):
         path = os.path.join(os.path.dirname(__file__), os.pardir, "README.md")
         with open(path, encoding="ascii") as file:
-            self.check(file.read(), 35)
+            self.check(file.read(), 79)
 
 
 if __name__ == "__main__":

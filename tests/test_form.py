@@ -28,6 +28,11 @@ FUNCTIONS = {
     "eyes": {"for_eyes": ["size", "entries"], "seen_by": ["eyes", "place"],
              "in_sight": ["eyes", "low", "high"], "meeting": ["size", "eyes"],
              "barring_eyes": ["size", "eyes"]},
+    "back": {"fitting": ["shifts", "looks"], "best_look": ["shifts", "places"],
+             "parting": ["one", "other", "low", "high"], "looks_needed": ["shifts", "places"],
+             "look_plan": ["shifts", "places"], "judge_plan": ["shifts", "told"]},
+    "texts": {"show_place": ["place"], "show_picture": ["picture"], "show_line": ["line"]},
+    "readings": {"read_place": ["text"], "read_picture": ["text"], "read_line": ["text"]},
 }
 
 # Each class with the arguments of its constructor, its methods with theirs, and its properties.
@@ -42,6 +47,16 @@ CLASSES = {
         {"post": ["t"], "seen_at": ["t"], "dark": [], "total": ["low", "high"], "at": ["k"],
          "share": [], "longest": [], "__eq__": ["other"]},
         ["start", "step", "number"])},
+    "windows": {
+        "Window": (
+            ["size"],
+            {"__call__": ["place", "word"], "word_at": ["place"], "add_all": ["looks"],
+             "undo": [], "__len__": [], "__eq__": ["other"]},
+            ["picture", "looks"]),
+        "PlacedWindow": (
+            ["shift"],
+            {"__call__": ["place", "word"], "add_all": ["looks"], "__eq__": ["other"]},
+            ["shift"])},
     "errors": {name: (["value"], {}, []) for name in [
         "PostError", "InvalidSize", "InvalidPlace", "DoublePlace", "InvalidMatrix", "InvalidStep",
         "InvalidNumber", "InvalidWord", "Conflict", "Barred", "Taken", "Wrong", "NothingToUndo",
